@@ -1,0 +1,1 @@
+"""Corners, edges, faces: the bodies that some points have, in up to four dimensions."""

@@ -1,0 +1,171 @@
+"""The body of some points: its corners and its faces, by whole numbers alone.
+
+A set of points is one number, the sum of 2 to the i for its points i.
+
+A point is held as a vector: a 1, then its coordinates. The 1 takes up the plane's own number c, and the
+rule that the numbers of a dependence sum up to 0, so that planes and dimensions are plain linear algebra.
+"""
+
+REFUSAL = -2
+MOST_POINTS = 12
+MOST_COORDINATES = 4
+LEAST_FACE_DIMENSION = -1
+MOST_FACE_DIMENSION = 4
+
+
+def corners(n, d, p):
+    """Answer the body's dimension, then the set of its corners; or a refusal alone."""
+    if is_refused_body(n, d):
+        return [REFUSAL]
+    vectors = point_vectors(n, d, p)
+    found = corner_set(vectors, touched_sets(vectors))
+    return [dimension(vectors, found), found]
+
+
+def faces(n, d, k, p):
+    """Answer how many faces of dimension k there are, then these, the least first; or a refusal alone."""
+    if is_refused_body(n, d) or is_refused_dimension(k):
+        return [REFUSAL]
+    vectors = point_vectors(n, d, p)
+    found = [face for face in face_sets(vectors) if dimension(vectors, face) == k]
+    return [len(found)] + found
+
+
+def is_refused_body(n, d):
+    return n < 1 or n > MOST_POINTS or d < 1 or d > MOST_COORDINATES
+
+
+def is_refused_dimension(k):
+    return k < LEAST_FACE_DIMENSION or k > MOST_FACE_DIMENSION
+
+
+def point_vectors(n, d, p):
+    return [[1] + p[i * d:(i + 1) * d] for i in range(n)]
+
+
+def set_number(indexes):
+    number = 0
+    for i in indexes:
+        number = number | (1 << i)
+    return number
+
+
+def dimension(vectors, chosen):
+    """The dimension of a set of points, -1 of none."""
+    members = [vector for i, vector in enumerate(vectors) if (chosen >> i) & 1 == 1]
+    return len(cleared_rows(members, len(vectors[0]))) - 1
+
+
+def face_sets(vectors):
+    """Every face of the body, of whatever dimension, the least number first."""
+    touched = touched_sets(vectors)
+    body_corners = corner_set(vectors, touched)
+    return sorted([points & body_corners for points in touched])
+
+
+def corner_set(vectors, touched):
+    """The corners, out of all sets of points that planes touch."""
+    found = []
+    for i, vector in enumerate(vectors):
+        equals = set_number([j for j, other in enumerate(vectors) if other == vector])
+        if equals in touched and vectors.index(vector) == i:
+            found.append(i)
+    return set_number(found)
+
+
+def touched_sets(vectors):
+    """Every set of points, corners or not, that some plane touches: the keys of a dict.
+
+    Each is all of the points, or what some of the sides have in common. No point lies on every side, so
+    the set of no points comes out among them.
+    """
+    touched = {(1 << len(vectors)) - 1: True}
+    for side in side_sets(vectors):
+        for other in list(touched):
+            touched[side & other] = True
+    return touched
+
+
+def side_sets(vectors):
+    """The sets of points that lie on a side of the body."""
+    flat = full_vectors(vectors)
+    width = len(flat[0])
+    found = {}
+    for choice in choices(len(flat), width - 1):
+        plane = plane_through([flat[i] for i in choice], width)
+        if plane is not None:
+            heights = [inner_product(plane, vector) for vector in flat]
+            if min(heights) >= 0 or max(heights) <= 0:
+                found[set_number([i for i, height in enumerate(heights) if height == 0])] = True
+    return list(found)
+
+
+def full_vectors(vectors):
+    """The vectors without the columns that the others tell.
+
+    A body of fewer dimensions than the space around it has many planes through each side; among the
+    columns that are left there is just one.
+    """
+    columns = [leading_column(row) for row in cleared_rows(vectors, len(vectors[0]))]
+    return [[vector[column] for column in columns] for vector in vectors]
+
+
+def choices(n, size):
+    """Every way to choose so many of the numbers from 0 to n - 1, each in rising order."""
+    found = [[]]
+    for length in range(size):
+        longer = []
+        for choice in found:
+            start = choice[length - 1] + 1 if length > 0 else 0
+            longer.extend([choice + [i] for i in range(start, n)])
+        found = longer
+    return found
+
+
+def plane_through(vectors, width):
+    """The direction that is square to all these vectors, or None where there is more than one."""
+    rows = cleared_rows(vectors, width)
+    if len(rows) < width - 1:
+        return None
+    leads = [leading_column(row) for row in rows]
+    free = [column for column in range(width) if column not in leads][0]
+    plane = [0] * width
+    plane[free] = rows[0][leads[0]] if len(rows) > 0 else 1
+    for row, lead in zip(rows, leads):
+        plane[lead] = -row[free]
+    return plane
+
+
+def inner_product(first, second):
+    return sum([a * b for a, b in zip(first, second)])
+
+
+def leading_column(row):
+    return [column for column, number in enumerate(row) if number != 0][0]
+
+
+def cleared_rows(rows, width):
+    """As many rows as are independent, with the same span, each leading column cleared in all but its row.
+
+    All rows end up with one and the same leading number, which plane_through relies on.
+    """
+    done = []
+    rest = rows
+    last = 1
+    for column in range(width):
+        heads = [row for row in rest if row[column] != 0]
+        if len(heads) > 0:
+            head = heads[0]
+            done = [cleared_row(row, head, column, last) for row in done] + [head]
+            # The head itself stays behind as a row of zeros, which never leads again.
+            rest = [cleared_row(row, head, column, last) for row in rest]
+            last = head[column]
+    return done
+
+
+def cleared_row(row, head, column, last):
+    """The row with its number in the column brought to 0 by the head.
+
+    Every number is a minor of the rows at the outset, so the head before this one divides without a rest.
+    """
+    return [(head[column] * number - row[column] * above) // last for number, above in zip(row, head)]

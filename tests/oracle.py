@@ -1,0 +1,141 @@
+"""A second, slow way to the same answers, and bodies to ask about.
+
+It shares nothing with the program. A set of points is one that some plane touches just if, for every least
+dependence among the points (whole numbers that sum up to 0 and make the points' sum 0), the set holds either
+all points of both signs or not all points of either sign: else a mean of its own points would be a mean of
+others too. That is Farkas' lemma, told by least dependences.
+"""
+
+from fractions import Fraction
+from itertools import combinations
+
+
+def points_of(n, d, p):
+    return [tuple(p[i * d:(i + 1) * d]) for i in range(n)]
+
+
+def bits(indexes):
+    return sum(2 ** i for i in set(indexes))
+
+
+def dependences(points):
+    """A basis of the dependences of these points: numbers that sum up to 0 and make the points' sum 0."""
+    size = len(points)
+    if size == 0:
+        return []
+    rows = [[Fraction(1)] * size]
+    rows += [[Fraction(point[axis]) for point in points] for axis in range(len(points[0]))]
+    leads = []
+    for column in range(size):
+        top = len(leads)
+        at = next((r for r in range(top, len(rows)) if rows[r][column]), None)
+        if at is None:
+            continue
+        rows[top], rows[at] = rows[at], rows[top]
+        rows[top] = [x / rows[top][column] for x in rows[top]]
+        for r in range(len(rows)):
+            if r != top and rows[r][column]:
+                rows[r] = [x - rows[r][column] * y for x, y in zip(rows[r], rows[top])]
+        leads.append(column)
+    found = []
+    for free in range(size):
+        if free not in leads:
+            numbers = [Fraction(0)] * size
+            numbers[free] = Fraction(1)
+            for r, lead in enumerate(leads):
+                numbers[lead] = -rows[r][free]
+            found.append(numbers)
+    return found
+
+
+def dimension(points, chosen):
+    members = [point for i, point in enumerate(points) if chosen >> i & 1]
+    return len(members) - len(dependences(members)) - 1
+
+
+def least_dependences(points):
+    """The pairs of sets (points above 0, points below 0) of the dependences that need all their points."""
+    found = set()
+    for size in range(2, len(points[0]) + 3):
+        for indexes in combinations(range(len(points)), size):
+            basis = dependences([points[i] for i in indexes])
+            if len(basis) == 1 and all(basis[0]):
+                above = bits(i for i, x in zip(indexes, basis[0]) if x > 0)
+                below = bits(i for i, x in zip(indexes, basis[0]) if x < 0)
+                found.add((above, below))
+                found.add((below, above))
+    return sorted(found)
+
+
+def touched_sets(points):
+    pairs = least_dependences(points)
+    return [s for s in range(2 ** len(points))
+            if all(above & ~s or not below & ~s for above, below in pairs)]
+
+
+def corner_set(points, touched):
+    return bits(i for i, point in enumerate(points)
+                if point not in points[:i]
+                and bits(j for j, other in enumerate(points) if other == point) in touched)
+
+
+def corners(n, d, p):
+    points = points_of(n, d, p)
+    found = corner_set(points, touched_sets(points))
+    return [dimension(points, found), found]
+
+
+def all_faces(n, d, p):
+    """For each k from -1 to 4, what faces is to answer."""
+    points = points_of(n, d, p)
+    touched = touched_sets(points)
+    inside = corner_set(points, touched)
+    found = {k: [] for k in range(-1, 5)}
+    for face in sorted({s & inside for s in touched}):
+        found[dimension(points, face)].append(face)
+    return {k: [len(sets)] + sets for k, sets in found.items()}
+
+
+class Numbers:
+    """The same numbers in every run, well mixed."""
+
+    def __init__(self, seed):
+        self.state = seed
+
+    def pick(self, least, most):
+        self.state = (self.state * 6364136223846793005 + 1442695040888963407) % 2 ** 64
+        return least + (self.state >> 33) % (most - least + 1)
+
+
+def sample_bodies(seed, how_many, reach):
+    """Bodies of all sizes that are asked of, coordinates from -reach - 1 to reach, some flat, some with equals."""
+    numbers = Numbers(seed)
+    for turn in range(how_many):
+        d = turn % 4 + 1
+        n = numbers.pick(1, 9)
+        points = [[numbers.pick(-reach - 1, reach) for axis in range(d)] for i in range(n)]
+        if turn % 3 == 1:
+            axis = numbers.pick(0, d - 1)
+            for point in points:
+                point[axis] = points[0][axis]
+        if turn % 5 == 2:
+            points[-1] = list(points[0])
+        if turn % 7 == 3 and n > 2:
+            points[1] = [(a + b) // 2 for a, b in zip(points[0], points[-1])]
+        yield n, d, [x for point in points for x in point]
+
+
+def flat(points):
+    return [x for point in points for x in point]
+
+
+SQUARE = flat([(0, 0), (2, 0), (0, 2), (2, 2)])
+CUBE = flat((i & 1, i >> 1 & 1, i >> 2 & 1) for i in range(8))
+OCTAHEDRON = flat([(1, 0, 0), (-1, 0, 0), (0, 1, 0), (0, -1, 0), (0, 0, 1), (0, 0, -1)])
+TETRAHEDRON = flat([(0, 0, 0), (1, 0, 0), (0, 1, 0), (0, 0, 1)])
+PYRAMID = flat([(0, 0, 0), (2, 0, 0), (0, 2, 0), (2, 2, 0), (1, 1, 5)])
+SIMPLEX4 = flat([(0, 0, 0, 0), (1, 0, 0, 0), (0, 1, 0, 0), (0, 0, 1, 0), (0, 0, 0, 1)])
+CROSS4 = flat([tuple(s * (a == b) for b in range(4)) for a in range(4) for s in (1, -1)])
+CURVE4 = flat([(t, t ** 2, t ** 3, t ** 4) for t in range(-4, 5)])
+TRIANGLES4 = flat([a + b for a in ((0, 0), (1, 0), (0, 1)) for b in ((0, 0), (1, 0), (0, 1))])
+TWELVE_GON = flat([(t, t * t) for t in range(-6, 6)])
