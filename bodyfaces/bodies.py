@@ -1,4 +1,4 @@
-"""The body of some points: its corners and its faces, by whole numbers alone.
+"""The body of some points: its corners, its faces and where points lie in it, by whole numbers alone.
 
 A set of points is one number, the sum of 2 to the i for its points i.
 
@@ -7,6 +7,7 @@ rule that the numbers of a dependence sum up to 0, so that planes and dimensions
 """
 
 REFUSAL = -2
+NOT_IN_BODY = -1
 MOST_POINTS = 12
 MOST_COORDINATES = 4
 LEAST_FACE_DIMENSION = -1
@@ -29,6 +30,24 @@ def faces(n, d, k, p):
     vectors = point_vectors(n, d, p)
     found = [face for face in face_sets(vectors) if dimension(vectors, face) == k]
     return [len(found)] + found
+
+
+def least(n, d, s, p):
+    """Answer the dimension of the least face round the points of s, then that face; or a refusal alone."""
+    if is_refused_body(n, d) or s >> n != 0:
+        return [REFUSAL]
+    return least_face(point_vectors(n, d, p), s)
+
+
+def in_body(n, d, p, x):
+    """Answer the dimension of the least face round x, then that face; or alone that x is not in the body."""
+    if is_refused_body(n, d):
+        return [REFUSAL]
+    # With x as one more point behind the others, either it is a corner, which is a face by itself, and was
+    # not in the body; or the body and its corners are what they were without it.
+    x_alone = 1 << n
+    answer = least_face(point_vectors(n, d, p) + [[1] + x], x_alone)
+    return [NOT_IN_BODY] if answer[1] == x_alone else answer
 
 
 def is_refused_body(n, d):
@@ -61,6 +80,16 @@ def face_sets(vectors):
     touched = touched_sets(vectors)
     body_corners = corner_set(vectors, touched)
     return sorted([points & body_corners for points in touched])
+
+
+def least_face(vectors, points):
+    """The dimension of the least face that planes through all these points touch, then that face."""
+    touched = touched_sets(vectors)
+    face = corner_set(vectors, touched)
+    for other in touched:
+        if points & other == points:
+            face = face & other
+    return [dimension(vectors, face), face]
 
 
 def corner_set(vectors, touched):

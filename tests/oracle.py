@@ -7,11 +7,12 @@ others too. That is Farkas' lemma, told by least dependences.
 """
 
 from fractions import Fraction
+from functools import lru_cache
 from itertools import combinations
 
 
 def points_of(n, d, p):
-    return [tuple(p[i * d:(i + 1) * d]) for i in range(n)]
+    return tuple(tuple(p[i * d:(i + 1) * d]) for i in range(n))
 
 
 def bits(indexes):
@@ -67,6 +68,7 @@ def least_dependences(points):
     return sorted(found)
 
 
+@lru_cache(maxsize=1)
 def touched_sets(points):
     pairs = least_dependences(points)
     return [s for s in range(2 ** len(points))
@@ -94,6 +96,37 @@ def all_faces(n, d, p):
     for face in sorted({s & inside for s in touched}):
         found[dimension(points, face)].append(face)
     return {k: [len(sets)] + sets for k, sets in found.items()}
+
+
+def least_face(points, s):
+    touched = touched_sets(points)
+    face = corner_set(points, touched)
+    for other in touched:
+        if not s & ~other:
+            face &= other
+    return [dimension(points, face), face]
+
+
+def least(n, d, s, p):
+    return least_face(points_of(n, d, p), s)
+
+
+def mean_of(points, x):
+    """The set of some points that x is a mean of, each with a weight above 0; None if x is no mean of them."""
+    for size in range(1, len(x) + 2):
+        for indexes in combinations(range(len(points)), size):
+            members = [points[i] for i in indexes]
+            basis = dependences(members + [tuple(x)])
+            # Where the members are independent, x is the last one and has the number 1.
+            if not dependences(members) and basis and max(basis[0][:-1]) <= 0:
+                return bits(i for i, number in zip(indexes, basis[0]) if number < 0)
+    return None
+
+
+def in_body(n, d, p, x):
+    points = points_of(n, d, p)
+    members = mean_of(points, x)
+    return [-1] if members is None else least_face(points, members)
 
 
 class Numbers:
@@ -125,8 +158,23 @@ def sample_bodies(seed, how_many, reach):
         yield n, d, [x for point in points for x in point]
 
 
+def sample_means(seed, how_many, reach):
+    """Bodies as above, six times as large, each with a mean of up to five of its points."""
+    numbers = Numbers(seed)
+    for n, d, p in sample_bodies(seed, how_many, reach):
+        weights = [(6,), (3, 3), (5, 1), (2, 2, 2), (1, 2, 3), (2, 1, 1, 1, 1)][numbers.pick(0, 5)]
+        chosen = [numbers.pick(0, n - 1) for weight in weights]
+        points = points_of(n, d, p)
+        x = [sum(w * points[i][axis] for w, i in zip(weights, chosen)) for axis in range(d)]
+        yield n, d, [6 * number for number in p], x
+
+
 def flat(points):
     return [x for point in points for x in point]
+
+
+def doubled(p):
+    return [2 * number for number in p]
 
 
 SQUARE = flat([(0, 0), (2, 0), (0, 2), (2, 2)])
