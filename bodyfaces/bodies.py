@@ -1,4 +1,5 @@
-"""The body of some points: its corners, its faces and where points lie in it, by whole numbers alone.
+"""The body of some points: its corners and faces, where points lie in it, what is best in a direction and
+the ways over its edges, by whole numbers alone.
 
 A set of points is one number, the sum of 2 to the i for its points i.
 
@@ -12,6 +13,7 @@ MOST_POINTS = 12
 MOST_COORDINATES = 4
 LEAST_FACE_DIMENSION = -1
 MOST_FACE_DIMENSION = 4
+EDGE_DIMENSION = 1
 
 
 def corners(n, d, p):
@@ -19,7 +21,7 @@ def corners(n, d, p):
     if is_refused_body(n, d):
         return [REFUSAL]
     vectors = point_vectors(n, d, p)
-    found = corner_set(vectors, touched_sets(vectors))
+    found = corners_of(vectors)
     return [dimension(vectors, found), found]
 
 
@@ -28,7 +30,7 @@ def faces(n, d, k, p):
     if is_refused_body(n, d) or is_refused_dimension(k):
         return [REFUSAL]
     vectors = point_vectors(n, d, p)
-    found = [face for face in face_sets(vectors) if dimension(vectors, face) == k]
+    found = face_sets_of(vectors, k)
     return [len(found)] + found
 
 
@@ -50,6 +52,30 @@ def in_body(n, d, p, x):
     return [NOT_IN_BODY] if answer[1] == x_alone else answer
 
 
+def best(n, d, p, a):
+    """Answer the dimension of the corners where the sum is greatest, that sum, then these; or a refusal alone."""
+    if is_refused_body(n, d):
+        return [REFUSAL]
+    vectors = point_vectors(n, d, p)
+    # A vector begins with a 1 that is no coordinate.
+    direction = [0] + a
+    heights = [inner_product(direction, vector) for vector in vectors]
+    greatest = max(heights)
+    face = corners_of(vectors) & set_number([i for i, height in enumerate(heights) if height == greatest])
+    return [dimension(vectors, face), greatest, face]
+
+
+def way(n, d, i, j, p):
+    """Answer the fewest edges on a way from corner i to corner j; or a refusal alone."""
+    if is_refused_body(n, d):
+        return [REFUSAL]
+    vectors = point_vectors(n, d, p)
+    ends = members(corners_of(vectors))
+    if i not in ends or j not in ends:
+        return [REFUSAL]
+    return [fewest_edges(face_sets_of(vectors, EDGE_DIMENSION), i, j)]
+
+
 def is_refused_body(n, d):
     return n < 1 or n > MOST_POINTS or d < 1 or d > MOST_COORDINATES
 
@@ -69,10 +95,15 @@ def set_number(indexes):
     return number
 
 
+def members(number):
+    """The indexes of a set's points, in rising order."""
+    return [i for i in range(number.bit_length()) if (number >> i) & 1 == 1]
+
+
 def dimension(vectors, chosen):
     """The dimension of a set of points, -1 of none."""
-    members = [vector for i, vector in enumerate(vectors) if (chosen >> i) & 1 == 1]
-    return len(cleared_rows(members, len(vectors[0]))) - 1
+    rows = cleared_rows([vectors[i] for i in members(chosen)], len(vectors[0]))
+    return len(rows) - 1
 
 
 def face_sets(vectors):
@@ -80,6 +111,25 @@ def face_sets(vectors):
     touched = touched_sets(vectors)
     body_corners = corner_set(vectors, touched)
     return sorted([points & body_corners for points in touched])
+
+
+def face_sets_of(vectors, k):
+    """Every face of dimension k, the least number first."""
+    return [face for face in face_sets(vectors) if dimension(vectors, face) == k]
+
+
+def fewest_edges(edges, start, end):
+    """How many edges lead from start to end at the least; there is a way from each corner to each other."""
+    reached = 1 << start
+    steps = 0
+    while (reached >> end) & 1 == 0:
+        wider = reached
+        for edge in edges:
+            if edge & reached != 0:
+                wider = wider | edge
+        reached = wider
+        steps = steps + 1
+    return steps
 
 
 def least_face(vectors, points):
@@ -90,6 +140,10 @@ def least_face(vectors, points):
         if points & other == points:
             face = face & other
     return [dimension(vectors, face), face]
+
+
+def corners_of(vectors):
+    return corner_set(vectors, touched_sets(vectors))
 
 
 def corner_set(vectors, touched):

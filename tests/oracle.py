@@ -129,6 +129,26 @@ def in_body(n, d, p, x):
     return [-1] if members is None else least_face(points, members)
 
 
+def best(n, d, p, a):
+    points = points_of(n, d, p)
+    sums = [sum(x * y for x, y in zip(point, a)) for point in points]
+    face = corner_set(points, touched_sets(points)) & bits(i for i in range(n) if sums[i] == max(sums))
+    return [dimension(points, face), max(sums), face]
+
+
+def all_ways(n, d, p):
+    """For each pair of corners, how many edges are on the shortest way between them."""
+    inside = corners(n, d, p)[1]
+    edges = all_faces(n, d, p)[1][1:]
+    ends = [i for i in range(n) if inside >> i & 1]
+    far = {(i, j): 0 if i == j else 1 if 1 << i | 1 << j in edges else n for i in ends for j in ends}
+    for via in ends:
+        for i in ends:
+            for j in ends:
+                far[i, j] = min(far[i, j], far[i, via] + far[via, j])
+    return far
+
+
 class Numbers:
     """The same numbers in every run, well mixed."""
 

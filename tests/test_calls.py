@@ -8,7 +8,7 @@ import pathlib
 import unittest
 
 import bodyfaces.bodies
-from bodyfaces.bodies import corners, faces, in_body, least
+from bodyfaces.bodies import best, corners, faces, in_body, least, way
 from tests import oracle
 
 LEAST, MOST = -2147483648, 2147483647
@@ -21,15 +21,18 @@ INTERFACE = {
     "faces": ["n", "d", "k", "p"],
     "least": ["n", "d", "s", "p"],
     "in_body": ["n", "d", "p", "x"],
+    "best": ["n", "d", "p", "a"],
+    "way": ["n", "d", "i", "j", "p"],
 }
 
 
 def answers(n, d, p, x):
-    """What every call answers of a body, refusals for the sake of k and s among them."""
+    """What every call answers of a body, refusals for the sake of k, s, i and j among them; a is x here."""
     told = [corners(n, d, p)]
     told += [faces(n, d, k, p) for k in range(-2, 6)]
     told += [least(n, d, s, p) for s in (0, 1, 5, 4095, 4294967295)]
-    told += [in_body(n, d, p, x)]
+    told += [in_body(n, d, p, x), best(n, d, p, x)]
+    told += [way(n, d, i, j, p) for i, j in ((0, 0), (0, 1), (n - 1, 0), (-1, n))]
     return told
 
 
@@ -51,6 +54,8 @@ class Interface(unittest.TestCase):
         self.assertEqual(faces(n=2, d=1, k=0, p=[3, 4]), [2, 1, 2])
         self.assertEqual(least(n=2, d=1, s=2, p=[3, 4]), [0, 2])
         self.assertEqual(in_body(n=2, d=1, p=[3, 4], x=[4]), [0, 2])
+        self.assertEqual(best(n=2, d=1, p=[3, 4], a=[5]), [0, 20, 2])
+        self.assertEqual(way(n=2, d=1, i=0, j=1, p=[3, 4]), [1])
 
 
 class Refusals(unittest.TestCase):
@@ -90,6 +95,8 @@ class Refusals(unittest.TestCase):
             self.assertEqual(faces(n, d, 4, p), [0])
             self.assertEqual(least(n, d, 1 << n - 1, p), [0, 1])
             self.assertEqual(in_body(n, d, p, [0] * d), [0, 1])
+            self.assertEqual(best(n, d, p, [9] * d), [0, 0, 1])
+            self.assertEqual(way(n, d, 0, 0, p), [0])
 
 
 class WatchedList(list):
@@ -136,6 +143,12 @@ class NothingKept(unittest.TestCase):
         (lambda: in_body(4, 2, list(oracle.SQUARE), [1, 0]), [1, 3]),
         (lambda: in_body(4, 2, list(oracle.SQUARE), [3, 0]), [-1]),
         (lambda: in_body(4, 5, [], []), [-2]),
+        (lambda: best(4, 2, list(oracle.SQUARE), [0, -1]), [1, 0, 3]),
+        (lambda: best(4, 2, list(oracle.SQUARE), [1, 1]), [0, 4, 8]),
+        (lambda: best(13, 2, [], []), [-2]),
+        (lambda: way(8, 3, 0, 7, list(oracle.CUBE)), [3]),
+        (lambda: way(4, 2, 0, 3, list(oracle.SQUARE)), [2]),
+        (lambda: way(4, 2, 0, 4, list(oracle.SQUARE)), [-2]),
     )
 
     def test_a_call_answers_the_same_whatever_was_before_it(self):
@@ -156,12 +169,17 @@ class NothingKept(unittest.TestCase):
         self.assertEqual(corners(3, 1, p), [1, 0b101])
         self.assertEqual(least(3, 1, 0b010, p), [1, 0b101])
         self.assertEqual(in_body(3, 1, p, x), [0, 0b100])
+        self.assertEqual(best(3, 1, p, x), [0, 81, 0b100])
+        self.assertEqual(way(3, 1, 0, 1, p), [-2])
         p[1] = 50
         self.assertEqual(corners(3, 1, p), [1, 0b011])
         self.assertEqual(least(3, 1, 0b010, p), [0, 0b010])
         self.assertEqual(in_body(3, 1, p, x), [1, 0b011])
+        self.assertEqual(best(3, 1, p, x), [0, 450, 0b010])
+        self.assertEqual(way(3, 1, 0, 1, p), [1])
         x[0] = -1
         self.assertEqual(in_body(3, 1, p, x), [-1])
+        self.assertEqual(best(3, 1, p, x), [0, 0, 0b001])
 
 
 class NothingPrintedReadOrImported(unittest.TestCase):
