@@ -1,5 +1,5 @@
-"""The body of some points: its corners and faces, where points lie in it, what is best in a direction and
-the ways over its edges, by whole numbers alone.
+"""The body of some points: its corners and faces, where points lie in it, what is best in a direction, the
+ways over its edges, and whether two bodies are built alike, by whole numbers alone.
 
 A set of points is one number, the sum of 2 to the i for its points i.
 
@@ -9,6 +9,9 @@ rule that the numbers of a dependence sum up to 0, so that planes and dimensions
 
 REFUSAL = -2
 NOT_IN_BODY = -1
+ALIKE = 1
+NOT_ALIKE = 0
+NO_MATCH = 255
 MOST_POINTS = 12
 MOST_COORDINATES = 4
 LEAST_FACE_DIMENSION = -1
@@ -76,6 +79,29 @@ def way(n, d, i, j, p):
     return [fewest_edges(face_sets_of(vectors, EDGE_DIMENSION), i, j)]
 
 
+def sides(n, d, p):
+    """Answer how many sides the body has; or a refusal alone."""
+    if is_refused_body(n, d):
+        return [REFUSAL]
+    return [len(side_sets(point_vectors(n, d, p)))]
+
+
+def alike(n, d, m, e, p, q):
+    """Answer 1, then each point's match in the second body; or 0 if they are not alike; or a refusal alone."""
+    if is_refused_body(n, d) or is_refused_body(m, e):
+        return [REFUSAL]
+    first = point_vectors(n, d, p)
+    second = point_vectors(m, e, q)
+    first_corners = members(corners_of(first))
+    matches = least_matches(first_corners, side_sets(first), members(corners_of(second)), side_sets(second))
+    if matches is None:
+        return [NOT_ALIKE]
+    answer = [NO_MATCH] * n
+    for corner, partner in zip(first_corners, matches):
+        answer[corner] = partner
+    return [ALIKE] + answer
+
+
 def is_refused_body(n, d):
     return n < 1 or n > MOST_POINTS or d < 1 or d > MOST_COORDINATES
 
@@ -130,6 +156,43 @@ def fewest_edges(edges, start, end):
         reached = wider
         steps = steps + 1
     return steps
+
+
+def least_matches(first_corners, first_sides, second_corners, second_sides):
+    """The least list of second corners that match the first ones in their order, or None.
+
+    Faces are what sides have in common, so a matching that takes sides to sides takes faces to faces.
+    """
+    if len(first_corners) != len(second_corners):
+        return None
+    traces = [0] * len(first_sides)
+    wanted = [sorted(traces)]
+    for corner in first_corners:
+        traces = longer_traces(traces, first_sides, corner)
+        wanted.append(sorted(traces))
+    return least_matches_behind([], [0] * len(second_sides), wanted, second_corners, second_sides)
+
+
+def least_matches_behind(matched, traces, wanted, second_corners, second_sides):
+    """The least list that goes on from what is matched, or None.
+
+    A side's trace tells which of the corners matched so far it holds. As long as the traces of both bodies'
+    sides are the same but for their order, the matching may be part of a whole one; at the end it is one.
+    """
+    if sorted(traces) != wanted[len(matched)]:
+        return None
+    if len(matched) == len(second_corners):
+        return matched
+    for corner in [other for other in second_corners if other not in matched]:
+        longer = longer_traces(traces, second_sides, corner)
+        found = least_matches_behind(matched + [corner], longer, wanted, second_corners, second_sides)
+        if found is not None:
+            return found
+    return None
+
+
+def longer_traces(traces, body_sides, corner):
+    return [2 * trace + ((side >> corner) & 1) for trace, side in zip(traces, body_sides)]
 
 
 def least_face(vectors, points):

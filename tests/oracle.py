@@ -149,6 +149,47 @@ def all_ways(n, d, p):
     return far
 
 
+def sides(n, d, p):
+    return [all_faces(n, d, p)[corners(n, d, p)[0] - 1][0]]
+
+
+def indexes_of(number):
+    return [i for i in range(number.bit_length()) if number >> i & 1]
+
+
+def shared_faces(n, d, p):
+    """For each two corners (or one, twice), how many faces of each dimension hold them."""
+    found = all_faces(n, d, p)
+    ends = indexes_of(corners(n, d, p)[1])
+    return {(i, j): [sum(face >> i & face >> j & 1 for face in found[k][1:]) for k in found]
+            for i in ends for j in ends}
+
+
+def all_matchings(n, d, m, e, p, q):
+    """Every way to match the corners, each a list of the second's corners in the order of the first's."""
+    ours, theirs = indexes_of(corners(n, d, p)[1]), indexes_of(corners(m, e, q)[1])
+    if len(ours) != len(theirs):
+        return []
+    our_counts, their_counts = shared_faces(n, d, p), shared_faces(m, e, q)
+    partial = [[]]
+    for at, corner in enumerate(ours):
+        partial = [way + [other] for way in partial for other in theirs if other not in way
+                   and all(our_counts[ours[i], corner] == their_counts[(way + [other])[i], other]
+                           for i in range(at + 1))]
+    our_faces = [face for found in all_faces(n, d, p).values() for face in found[1:]]
+    their_faces = sorted(face for found in all_faces(m, e, q).values() for face in found[1:])
+    return [way for way in partial
+            if sorted(bits(way[ours.index(i)] for i in indexes_of(face)) for face in our_faces) == their_faces]
+
+
+def alike(n, d, m, e, p, q):
+    matchings = all_matchings(n, d, m, e, p, q)
+    if not matchings:
+        return [0]
+    matches = dict(zip(indexes_of(corners(n, d, p)[1]), min(matchings)))
+    return [1] + [matches.get(i, 255) for i in range(n)]
+
+
 class Numbers:
     """The same numbers in every run, well mixed."""
 
@@ -158,6 +199,10 @@ class Numbers:
     def pick(self, least, most):
         self.state = (self.state * 6364136223846793005 + 1442695040888963407) % 2 ** 64
         return least + (self.state >> 33) % (most - least + 1)
+
+    def shuffled(self, values):
+        values = list(values)
+        return [values.pop(self.pick(0, len(values) - 1)) for turn in range(len(values))]
 
 
 def sample_bodies(seed, how_many, reach):
@@ -203,7 +248,12 @@ OCTAHEDRON = flat([(1, 0, 0), (-1, 0, 0), (0, 1, 0), (0, -1, 0), (0, 0, 1), (0, 
 TETRAHEDRON = flat([(0, 0, 0), (1, 0, 0), (0, 1, 0), (0, 0, 1)])
 PYRAMID = flat([(0, 0, 0), (2, 0, 0), (0, 2, 0), (2, 2, 0), (1, 1, 5)])
 SIMPLEX4 = flat([(0, 0, 0, 0), (1, 0, 0, 0), (0, 1, 0, 0), (0, 0, 1, 0), (0, 0, 0, 1)])
+BIPYRAMID = flat([(3, 0, 0), (0, 3, 0), (-2, -2, 0), (0, 0, 2), (0, 0, -2)])
+PRISM = flat([(0, 0, 0), (1, 0, 0), (0, 1, 0), (0, 0, 1), (1, 0, 1), (0, 1, 1)])
 CROSS4 = flat([tuple(s * (a == b) for b in range(4)) for a in range(4) for s in (1, -1)])
 CURVE4 = flat([(t, t ** 2, t ** 3, t ** 4) for t in range(-4, 5)])
 TRIANGLES4 = flat([a + b for a in ((0, 0), (1, 0), (0, 1)) for b in ((0, 0), (1, 0), (0, 1))])
+# As many faces of each dimension as CURVE4, and each two corners share an edge here too, but other sides.
+OTHER4 = flat([(-9, -6, 8, -2), (8, 9, 4, 4), (1, 9, -1, -8), (-3, -8, 1, -7), (-4, 6, -8, 1),
+               (1, -5, -6, -4), (2, 8, 9, -5), (-8, 2, -7, 9), (3, 8, 4, 8)])
 TWELVE_GON = flat([(t, t * t) for t in range(-6, 6)])

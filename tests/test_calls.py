@@ -8,7 +8,7 @@ import pathlib
 import unittest
 
 import bodyfaces.bodies
-from bodyfaces.bodies import best, corners, faces, in_body, least, way
+from bodyfaces.bodies import alike, best, corners, faces, in_body, least, sides, way
 from tests import oracle
 
 LEAST, MOST = -2147483648, 2147483647
@@ -23,16 +23,23 @@ INTERFACE = {
     "in_body": ["n", "d", "p", "x"],
     "best": ["n", "d", "p", "a"],
     "way": ["n", "d", "i", "j", "p"],
+    "sides": ["n", "d", "p"],
+    "alike": ["n", "d", "m", "e", "p", "q"],
 }
 
 
 def answers(n, d, p, x):
-    """What every call answers of a body, refusals for the sake of k, s, i and j among them; a is x here."""
+    """What every call answers of a body, refusals for the sake of k, s, i and j among them; a is x here.
+
+    The body stands first, second and on both sides in alike.
+    """
     told = [corners(n, d, p)]
     told += [faces(n, d, k, p) for k in range(-2, 6)]
     told += [least(n, d, s, p) for s in (0, 1, 5, 4095, 4294967295)]
     told += [in_body(n, d, p, x), best(n, d, p, x)]
     told += [way(n, d, i, j, p) for i, j in ((0, 0), (0, 1), (n - 1, 0), (-1, n))]
+    told += [sides(n, d, p), alike(n, d, n, d, p, p)]
+    told += [alike(n, d, 4, 2, p, list(oracle.SQUARE)), alike(4, 2, n, d, list(oracle.SQUARE), p)]
     return told
 
 
@@ -56,6 +63,8 @@ class Interface(unittest.TestCase):
         self.assertEqual(in_body(n=2, d=1, p=[3, 4], x=[4]), [0, 2])
         self.assertEqual(best(n=2, d=1, p=[3, 4], a=[5]), [0, 20, 2])
         self.assertEqual(way(n=2, d=1, i=0, j=1, p=[3, 4]), [1])
+        self.assertEqual(sides(n=2, d=1, p=[3, 4]), [2])
+        self.assertEqual(alike(n=2, d=1, m=3, e=2, p=[3, 4], q=[1, 1, 0, 0, 2, 2]), [1, 1, 2])
 
 
 class Refusals(unittest.TestCase):
@@ -97,6 +106,8 @@ class Refusals(unittest.TestCase):
             self.assertEqual(in_body(n, d, p, [0] * d), [0, 1])
             self.assertEqual(best(n, d, p, [9] * d), [0, 0, 1])
             self.assertEqual(way(n, d, 0, 0, p), [0])
+            self.assertEqual(sides(n, d, p), [1])
+            self.assertEqual(alike(n, d, n, d, p, p), [1, 0] + [255] * (n - 1))
 
 
 class WatchedList(list):
@@ -149,6 +160,12 @@ class NothingKept(unittest.TestCase):
         (lambda: way(8, 3, 0, 7, list(oracle.CUBE)), [3]),
         (lambda: way(4, 2, 0, 3, list(oracle.SQUARE)), [2]),
         (lambda: way(4, 2, 0, 4, list(oracle.SQUARE)), [-2]),
+        (lambda: sides(8, 3, list(oracle.CUBE)), [6]),
+        (lambda: sides(4, 2, list(oracle.SQUARE)), [4]),
+        (lambda: sides(4, 0, []), [-2]),
+        (lambda: alike(4, 2, 4, 2, list(oracle.SQUARE), [0, 0, 2, 0, 2, 2, 0, 2]), [1, 0, 1, 3, 2]),
+        (lambda: alike(4, 2, 4, 2, list(oracle.SQUARE), [0, 0, 2, 0, 1, 1, 0, 2]), [0]),
+        (lambda: alike(4, 2, 0, 2, list(oracle.SQUARE), []), [-2]),
     )
 
     def test_a_call_answers_the_same_whatever_was_before_it(self):
@@ -171,15 +188,31 @@ class NothingKept(unittest.TestCase):
         self.assertEqual(in_body(3, 1, p, x), [0, 0b100])
         self.assertEqual(best(3, 1, p, x), [0, 81, 0b100])
         self.assertEqual(way(3, 1, 0, 1, p), [-2])
+        self.assertEqual(alike(3, 1, 3, 1, p, p), [1, 0, 255, 2])
         p[1] = 50
         self.assertEqual(corners(3, 1, p), [1, 0b011])
         self.assertEqual(least(3, 1, 0b010, p), [0, 0b010])
         self.assertEqual(in_body(3, 1, p, x), [1, 0b011])
         self.assertEqual(best(3, 1, p, x), [0, 450, 0b010])
         self.assertEqual(way(3, 1, 0, 1, p), [1])
+        self.assertEqual(alike(3, 1, 3, 1, p, p), [1, 0, 1, 255])
         x[0] = -1
         self.assertEqual(in_body(3, 1, p, x), [-1])
         self.assertEqual(best(3, 1, p, x), [0, 0, 0b001])
+
+
+    def test_the_module_is_afterwards_as_it_was(self):
+        before = dict(vars(bodyfaces.bodies))
+        for n, d, p, x in sample_calls(14):
+            answers(n, d, p, x)
+        self.assertEqual(vars(bodyfaces.bodies), before)
+
+    def test_the_module_holds_nothing_that_could_be_changed(self):
+        for name, value in vars(bodyfaces.bodies).items():
+            if not name.startswith("__"):
+                self.assertTrue(isinstance(value, int) or inspect.isfunction(value), name)
+                if inspect.isfunction(value):
+                    self.assertEqual((value.__defaults__, value.__closure__, vars(value)), (None, None, {}), name)
 
 
 class NothingPrintedReadOrImported(unittest.TestCase):
